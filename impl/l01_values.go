@@ -976,9 +976,9 @@ func Show(v Value) string {
 	text := plainText(v)
 	switch v.Kind {
 	case Text:
-		return "'" + strings.ReplaceAll(text, "'", "''") + "'"
+		return quotedBy("'", text)
 	case Bool:
-		return strings.ToUpper(text)
+		return shiftedLetters(text, 'a', 'z', 'A'-'a').S
 	case Date:
 		return "DATE '" + text + "'"
 	case Dec:
