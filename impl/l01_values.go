@@ -614,11 +614,21 @@ func areDigits(s string, most int) bool {
 }
 
 func readInt(s string) (int, bool) {
-	if !areDigits(strings.TrimPrefix(s, "-"), 19) {
+	digits := strings.TrimPrefix(s, "-")
+	if !areDigits(digits, 19) {
 		return 0, false
 	}
-	n, err := strconv.Atoi(s)
-	return n, err == nil
+	n, code := signed(wordOf(digits), len(digits) < len(s))
+	return n, code == OK
+}
+
+// wordOf reads digits, of which there are so few that a word without sign has room for them.
+func wordOf(digits string) uint64 {
+	n := uint64(0)
+	for _, c := range digits {
+		n = n*10 + uint64(c-'0')
+	}
+	return n
 }
 
 func readDec(s string) (int, bool) {
@@ -627,11 +637,8 @@ func readDec(s string) (int, bool) {
 		return 0, false
 	}
 	// Filled up to four digits the fraction counts units; 18 digits are never above MaxDec.
-	n, err := strconv.Atoi(whole + fraction + strings.Repeat("0", 4-len(fraction)))
-	if strings.HasPrefix(s, "-") {
-		n = -n
-	}
-	return n, err == nil
+	n, code := signed(wordOf(whole+fraction+strings.Repeat("0", 4-len(fraction))), strings.HasPrefix(s, "-"))
+	return n, code == OK
 }
 
 func readDate(s string) (int, bool) {
@@ -642,17 +649,8 @@ func readDate(s string) (int, bool) {
 	if !areDigits(year+month+day, 8) {
 		return 0, false
 	}
-	n, code := DateOf(smallNumber(year), smallNumber(month), smallNumber(day))
+	n, code := DateOf(int(wordOf(year)), int(wordOf(month)), int(wordOf(day)))
 	return n, code == OK
-}
-
-// smallNumber reads digits that are known to be few.
-func smallNumber(digits string) int {
-	n := 0
-	for _, c := range digits {
-		n = n*10 + int(c-'0')
-	}
-	return n
 }
 
 // Like matches a text with a pattern, see chapter 2.
@@ -978,7 +976,7 @@ func Show(v Value) string {
 	case Text:
 		return quotedBy("'", text)
 	case Bool:
-		return shiftedLetters(text, 'a', 'z', 'A'-'a').S
+		return inCapitals(text)
 	case Date:
 		return "DATE '" + text + "'"
 	case Dec:

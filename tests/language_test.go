@@ -16,6 +16,10 @@ func farReaching() []string {
 	}
 }
 
+// nearReaching are the functions of package strconv that come neither to its tables of characters, which quote what an
+// error tells of, nor to those of its powers.
+func nearReaching() []string { return []string{"Itoa", "FormatInt", "FormatUint", "FormatBool"} }
+
 func TestNoCallReachesGreatTables(t *testing.T) {
 	files, err := filepath.Glob("../impl/*.go")
 	if err != nil || len(files) == 0 {
@@ -37,7 +41,8 @@ func TestNoCallReachesGreatTables(t *testing.T) {
 				return true
 			}
 			text := from.Name == "strings" || from.Name == "bytes"
-			if from.Name == "unicode" || text && slices.Contains(farReaching(), selector.Sel.Name) {
+			far := text && slices.Contains(farReaching(), selector.Sel.Name) || from.Name == "strconv" && !slices.Contains(nearReaching(), selector.Sel.Name)
+			if from.Name == "unicode" || far {
 				t.Errorf("%s: %s.%s", positions.Position(n.Pos()), from.Name, selector.Sel.Name)
 			}
 			return true
