@@ -175,6 +175,37 @@ func TestFoldMaxItems(t *testing.T) {
 	}
 }
 
+// An operand that folding has made longer than MaxItems is not safe, so that AND and OR stay.
+func TestFoldGrownOperands(t *testing.T) {
+	for _, c := range []struct {
+		pairs, negations int
+		safe             bool
+	}{{1, 0, true}, {132, 2, true}, {132, 3, false}, {133, 0, false}, {150, 0, false}, {190, 0, false}} {
+		for _, junction := range []struct {
+			op     int
+			strong bool
+		}{{impl.OpAnd, false}, {impl.OpOr, true}} {
+			first := unOf(impl.OpIsNull, manyPairs(c.pairs, c.negations))
+			strong := constOf(boolv(junction.strong))
+			e := laid(binOf(junction.op, first, strong))
+			want := e
+			if c.safe {
+				want = laid(strong)
+			}
+			wantFolded(t, e, want)
+			// Where the operand stays, the whole is too long when it is folded: nothing else in it is folded either.
+			beside := binOf(impl.OpAdd, constOf(intv(1)), constOf(intv(1)))
+			outer := newBranch(impl.XNode{Op: impl.XIn}, constOf(boolv(true)), upright(e), binOf(impl.OpEq, beside, columnOf(impl.Int, 0, 1)))
+			if c.safe {
+				wantFolded(t, laid(outer), laid(wantedFold(outer)))
+			} else {
+				wantFolded(t, laid(outer), laid(outer))
+			}
+			wantSameWork(t, e, [][]impl.Value{{boolv(true)}})
+		}
+	}
+}
+
 func TestFoldByChance(t *testing.T) {
 	g := exprGrower{grower{&numberSource{state: 45}}, manyLists()}
 	changed := 0

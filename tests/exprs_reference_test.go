@@ -258,7 +258,7 @@ func wantedJunction(b *branch, strong, weak bool) *branch {
 	if holds(second, boolv(weak)) {
 		return wantedAt(first, impl.Bool)
 	}
-	if holds(second, boolv(strong)) && wantedSafe(first) {
+	if holds(second, boolv(strong)) && wantedSafe(first) && len(laid(first).Nodes) <= impl.MaxItems {
 		return second
 	}
 	return b
