@@ -98,16 +98,18 @@ func wantWorkedOut(t *testing.T, e impl.Expr, v impl.Value) {
 	}
 }
 
-func TestPromise3(t *testing.T) {
+// literalValues are values that have a literal: all but the least Int.
+func literalValues(numbers *numberSource, rounds int) []impl.Value {
 	values := validValues()
-	numbers := &numberSource{state: 3}
-	for count := 0; count < 2000; count++ {
+	for ; rounds > 0; rounds-- {
 		values = append(values, intv(numbers.next()), decv(numbers.nextDec()), datev(impl.MinDate+below(numbers, impl.MaxDate-impl.MinDate+1)))
 	}
-	for _, v := range values {
-		if v != intv(math.MinInt) {
-			wantLiteral(t, v)
-		}
+	return slices.DeleteFunc(values, func(v impl.Value) bool { return v == intv(math.MinInt) })
+}
+
+func TestPromise3(t *testing.T) {
+	for _, v := range literalValues(&numberSource{state: 3}, 2000) {
+		wantLiteral(t, v)
 	}
 	// Of the least Int the constant stands, but no literal.
 	wantWorkedOut(t, laid(constOf(intv(math.MinInt))), intv(math.MinInt))

@@ -2,7 +2,9 @@ package tests
 
 import (
 	"math"
+	"slices"
 	"strings"
+	"testing"
 
 	"loop.example/g00001/impl"
 )
@@ -127,6 +129,31 @@ func oddNumbers() []int {
 		list = append(list, n)
 	}
 	return list
+}
+
+// wantApart asks that no two lists share memory: what is written into one, or behind its end, is seen in no other.
+func wantApart(t *testing.T, what string, lists [][]int) {
+	t.Helper()
+	want := cloned(lists)
+	for i, list := range lists {
+		_ = append(list, -1, -2, -3)
+		for k := range list {
+			list[k] = -5
+		}
+		for k := i + 1; k < len(lists); k++ {
+			if !slices.Equal(lists[k], want[k]) {
+				t.Fatalf("%s: list %d shares memory with list %d", what, k, i)
+			}
+		}
+	}
+}
+
+func kidsOfExpr(e impl.Expr) [][]int {
+	var lists [][]int
+	for _, node := range e.Nodes {
+		lists = append(lists, node.Kids)
+	}
+	return lists
 }
 
 // numberSource makes numbers of all sizes that are the same in every run.
