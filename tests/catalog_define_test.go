@@ -30,18 +30,24 @@ func defined(t *testing.T, texts ...string) impl.Schema {
 	return definedOn(t, impl.Schema{Next: 1}, texts...)
 }
 
+// markedPlace is a text somewhat behind its beginning, without its mark ^, and the place of that; 0 without a mark.
+func markedPlace(text string) (string, int) {
+	before, behind, found := strings.Cut("  "+text, "^")
+	if !found {
+		return before, 0
+	}
+	return before + behind, len(before)
+}
+
 // wantDefineFaults asks for a code at the place that is marked by ^; without a mark at 0, where the root does not stand.
 func wantDefineFaults(t *testing.T, s impl.Schema, code int, marked ...string) {
 	t.Helper()
 	for _, text := range marked {
-		before, behind, found := strings.Cut("  "+text, "^")
-		if !found {
-			before, behind = "", before
-		}
-		tree := parsed(t, before+behind)
+		src, place := markedPlace(text)
+		tree := parsed(t, src)
 		got, gotCode, pos := impl.Define(s, tree)
-		if gotCode != code || pos != len(before) || !sameSchema(got, impl.Schema{}) {
-			t.Errorf("%s: %v, %d, %d; want %d, %d", text, got, gotCode, pos, code, len(before))
+		if gotCode != code || pos != place || !sameSchema(got, impl.Schema{}) {
+			t.Errorf("%s: %v, %d, %d; want %d, %d", text, got, gotCode, pos, code, place)
 		}
 		wantDefined(t, s, tree)
 	}

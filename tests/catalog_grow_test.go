@@ -10,12 +10,14 @@ import (
 type catalogGrower struct {
 	exprGrower
 	cols []impl.ColName
+	// elsewhere makes what stands for a value of a kind that is no column here; a literal does, if it is nil.
+	elsewhere func(kind int) *plant
 }
 
 func newCatalogGrower(numbers *numberSource, cols []impl.ColName) catalogGrower {
 	// Without columns a leaf is still looked for in one list at least.
 	lists := append(kindsOfCols(cols), []int{0, 1, 2, 3, 4, 5})
-	return catalogGrower{exprGrower{grower{numbers}, lists}, cols}
+	return catalogGrower{exprGrower: exprGrower{grower{numbers}, lists}, cols: cols}
 }
 
 // sql is an expression whose meaning is of a kind, where nothing was spoilt.
@@ -71,14 +73,27 @@ func (g catalogGrower) unboundConst(v impl.Value) *plant {
 }
 
 func (g catalogGrower) unboundColumn(b *branch) *plant {
+	if b.A > 0 && g.elsewhere != nil {
+		return g.elsewhere(b.Kind)
+	}
 	if b.A > 0 {
 		return g.unboundConst(g.valueOf(b.Kind))
 	}
 	node := impl.Node{Op: impl.NCol, Name: g.cols[b.B].Name}
-	if g.chance(2) {
+	if g.chance(2) || g.elsewhere != nil && !g.chance(20) && g.namedTwice(node.Name) {
 		node.Qual = g.cols[b.B].Qual
 	}
 	return newPlant(node)
+}
+
+func (g catalogGrower) namedTwice(name string) bool {
+	count := 0
+	for _, column := range g.cols {
+		if column.Name == name {
+			count++
+		}
+	}
+	return count > 1
 }
 
 // unboundCase has, by chance, an operand and what it is compared with in place of the conditions.

@@ -41,6 +41,7 @@ func TestPromise3Whole(t *testing.T) {
 }
 
 func TestBindByChance(t *testing.T) {
+	t.Parallel()
 	numbers := &numberSource{state: 61}
 	// The columns that are grown are meant by their names alone; the others make names mean several.
 	cols := []impl.ColName{
@@ -117,6 +118,7 @@ func wantDropped(t *testing.T, s, more impl.Schema, tree impl.Tree) {
 }
 
 func TestPromise9(t *testing.T) {
+	t.Parallel()
 	numbers := &numberSource{state: 9}
 	codes, changed := map[int]int{}, map[int]int{}
 	for run := 0; run < 60; run++ {
@@ -236,6 +238,7 @@ func oddRow(g catalogGrower, table impl.Table) []impl.Value {
 }
 
 func TestPromise1OfCatalog(t *testing.T) {
+	t.Parallel()
 	g := newCatalogGrower(&numberSource{state: 101}, nil)
 	valid, codes := 0, map[int]int{}
 	for round := 0; round < 1500; round++ {

@@ -206,6 +206,7 @@ func TestFoldGrownOperands(t *testing.T) {
 }
 
 func TestFoldByChance(t *testing.T) {
+	t.Parallel()
 	g := exprGrower{grower{&numberSource{state: 45}}, manyLists()}
 	changed := 0
 	for round := 0; round < 12000; round++ {

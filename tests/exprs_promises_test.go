@@ -26,6 +26,7 @@ func wantSameWork(t *testing.T, e impl.Expr, rows [][]impl.Value) int {
 }
 
 func TestPromise8(t *testing.T) {
+	t.Parallel()
 	g := exprGrower{grower{&numberSource{state: 8}}, manyLists()}
 	codes := map[int]int{}
 	for round := 0; round < 8000; round++ {
@@ -44,6 +45,7 @@ func TestPromise8(t *testing.T) {
 
 // TestPromise8OfFailures has failures at every place that folding may take away or move.
 func TestPromise8OfFailures(t *testing.T) {
+	t.Parallel()
 	parts := []string{"b0", "n1", "TRUE", "FALSE", "NULL", "CAST(NULL AS BOOLEAN)", "1 / 0 = 1", "CAST(t2 AS BOOLEAN)", "1 / i3 > 0"}
 	var sources []string
 	for _, a := range parts {

@@ -51,6 +51,7 @@ func overColumns(node impl.XNode, kinds []int) impl.Expr {
 
 // TestExprOKOfEveryForm asks for every operation, A, and list of up to three kids' kinds, with every Kind.
 func TestExprOKOfEveryForm(t *testing.T) {
+	t.Parallel()
 	valid := 0
 	for _, kinds := range kindLists(3) {
 		lists := [][]int{kinds}

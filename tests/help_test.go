@@ -2,12 +2,20 @@ package tests
 
 import (
 	"math"
+	"os"
+	"runtime/debug"
 	"slices"
 	"strings"
 	"testing"
 
 	"loop.example/g00001/impl"
 )
+
+// TestMain lets garbage lie longer: the tests make many small things, and keep few.
+func TestMain(m *testing.M) {
+	debug.SetGCPercent(1000)
+	os.Exit(m.Run())
+}
 
 var null = impl.Value{}
 

@@ -238,6 +238,7 @@ func vocabulary() []string {
 
 // TestParseFaultsOfEveryToken puts each sort of token behind each beginning of each case, and asks whether it can stand there.
 func TestParseFaultsOfEveryToken(t *testing.T) {
+	t.Parallel()
 	g := newGrammar(grammarText)
 	done := map[string]bool{}
 	for _, c := range parseCases() {
@@ -302,6 +303,7 @@ func disturb(numbers *numberSource, tokens []string) []string {
 }
 
 func TestParseAgainstGrammar(t *testing.T) {
+	t.Parallel()
 	g := newGrammar(grammarText)
 	numbers := &numberSource{state: 4}
 	good := 0

@@ -36,6 +36,7 @@ func wantRoundTrip(t *testing.T, src string) bool {
 }
 
 func TestPromise7(t *testing.T) {
+	t.Parallel()
 	numbers := &numberSource{state: 7}
 	written := 0
 	for round := 0; round < 6000; round++ {
@@ -93,6 +94,7 @@ func oddNode(numbers *numberSource) impl.Node {
 }
 
 func TestPromise1OfSyntax(t *testing.T) {
+	t.Parallel()
 	numbers := &numberSource{state: 17}
 	pieces := append(lexPieces(), "?", "\x00", "\xff", "(", ")", "select ", " from ", " as ", " case ", " in ", " not ", " - ", "date ", " union ", "insert into ")
 	for round := 0; round < 3000; round++ {

@@ -353,6 +353,7 @@ func TestTreeOKOfFirstTokens(t *testing.T) {
 
 // TestTreeOKOfMovedNodes takes trees by chance, with nodes that are doubled, lost, changed with another, or hung elsewhere.
 func TestTreeOKOfMovedNodes(t *testing.T) {
+	t.Parallel()
 	rules, numbers := treeRules(), &numberSource{state: 40}
 	valid := 0
 	for round := 0; round < 8000; round++ {

@@ -270,6 +270,7 @@ func checkDecs(t *testing.T, a, b impl.Value) {
 }
 
 func TestDecArithmetic(t *testing.T) {
+	t.Parallel()
 	decs := decValues()
 	for _, a := range decs {
 		for _, b := range decs {

@@ -113,6 +113,7 @@ func checkCall(t *testing.T, fn int, args []impl.Value) {
 }
 
 func TestP1CallsTakeAnything(t *testing.T) {
+	t.Parallel()
 	values := append(validValues(), invalidValues()...)
 	few := []impl.Value{null, intv(math.MinInt), intv(1), decv(5000), textv("é"), boolv(true), datev(0), {Kind: 9}}
 	for _, fn := range oddNumbers() {
