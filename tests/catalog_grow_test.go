@@ -17,7 +17,7 @@ type catalogGrower struct {
 func newCatalogGrower(numbers *numberSource, cols []impl.ColName) catalogGrower {
 	// Without columns a leaf is still looked for in one list at least.
 	lists := append(kindsOfCols(cols), []int{0, 1, 2, 3, 4, 5})
-	return catalogGrower{exprGrower: exprGrower{grower{numbers}, lists}, cols: cols}
+	return catalogGrower{exprGrower: exprGrower{grower: grower{numbers}, lists: lists}, cols: cols}
 }
 
 // sql is an expression whose meaning is of a kind, where nothing was spoilt.

@@ -185,7 +185,7 @@ func TestEvalOfRows(t *testing.T) {
 }
 
 func TestEvalByChance(t *testing.T) {
-	g := exprGrower{grower{&numberSource{state: 44}}, manyLists()}
+	g := exprGrower{grower: grower{&numberSource{state: 44}}, lists: manyLists()}
 	codes := map[int]int{}
 	for round := 0; round < 12000; round++ {
 		e := laid(g.any(round % 6))

@@ -207,7 +207,7 @@ func TestFoldGrownOperands(t *testing.T) {
 
 func TestFoldByChance(t *testing.T) {
 	t.Parallel()
-	g := exprGrower{grower{&numberSource{state: 45}}, manyLists()}
+	g := exprGrower{grower: grower{&numberSource{state: 45}}, lists: manyLists()}
 	changed := 0
 	for round := 0; round < 12000; round++ {
 		b := g.any(round % 7)

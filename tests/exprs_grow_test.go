@@ -186,6 +186,8 @@ var exprForms = sync.OnceValue(func() [6][12][]exprForm {
 type exprGrower struct {
 	grower
 	lists [][]int
+	// named makes a branch of a kind that names a plan, or none; where it is nil all branches are plain.
+	named func(kind int) *branch
 }
 
 // manyLists have columns of all kinds in each row.
@@ -219,6 +221,14 @@ var valuesByKind = sync.OnceValue(func() [6][]impl.Value {
 })
 
 func (g exprGrower) leaf(kind int) *branch {
+	if g.named != nil && g.chance(3) {
+		if b := g.named(kind); b != nil {
+			return b
+		}
+	}
+	if !slices.ContainsFunc(g.lists, func(list []int) bool { return slices.Contains(list, kind) }) {
+		return constOf(g.valueOf(kind))
+	}
 	switch below(g.numberSource, 12) {
 	case 0:
 		return castOf(kind, constOf(null))

@@ -27,7 +27,7 @@ func wantSameWork(t *testing.T, e impl.Expr, rows [][]impl.Value) int {
 
 func TestPromise8(t *testing.T) {
 	t.Parallel()
-	g := exprGrower{grower{&numberSource{state: 8}}, manyLists()}
+	g := exprGrower{grower: grower{&numberSource{state: 8}}, lists: manyLists()}
 	codes := map[int]int{}
 	for round := 0; round < 8000; round++ {
 		e := laid(g.any(1 + round%6))
@@ -166,7 +166,7 @@ func oddRows(g exprGrower) [][]impl.Value {
 }
 
 func TestPromise1OfExprs(t *testing.T) {
-	g := exprGrower{grower{&numberSource{state: 21}}, manyLists()}
+	g := exprGrower{grower: grower{&numberSource{state: 21}}, lists: manyLists()}
 	for round := 0; round < 6000; round++ {
 		e := laid(g.any(round % 4))
 		for count := below(g.numberSource, 3); count > 0; count-- {

@@ -105,13 +105,30 @@ func wantedValue(b *branch, rows [][]impl.Value) (v impl.Value, code int) {
 			v, code = null, int(thrown)
 		}
 	}()
-	return workOut(b, rows), impl.OK
+	return evaluator{}.workOut(b, rows), impl.OK
 }
 
-func workOut(b *branch, rows [][]impl.Value) impl.Value {
-	kid := func(i int) impl.Value { return workOut(b.kids[i], rows) }
+// evaluator works out branches; what a plan gives that one names is asked of rowsOf.
+type evaluator struct {
+	rowsOf func(plan int, rows [][]impl.Value) [][]impl.Value
+}
+
+func (e evaluator) workOut(b *branch, rows [][]impl.Value) impl.Value {
+	kid := func(i int) impl.Value { return e.workOut(b.kids[i], rows) }
 	var found impl.Value
 	switch b.Op {
+	case impl.XExists:
+		return boolv(len(e.rowsOf(b.B, rows)) > 0)
+	case impl.XScalar:
+		given := e.rowsOf(b.B, rows)
+		if len(given) > 1 {
+			panic(failed(impl.ErrRows))
+		}
+		return append(given, []impl.Value{null})[0][0]
+	case impl.XInPlan:
+		first := kid(0)
+		given := e.rowsOf(b.B, rows)
+		found = isIn(first, len(given)+1, func(i int) impl.Value { return given[i-1][0] })
 	case impl.XConst:
 		return b.Val
 	case impl.XCol:

@@ -149,7 +149,7 @@ func TestExprTextOfNone(t *testing.T) {
 }
 
 func TestExprTextByChance(t *testing.T) {
-	g := exprGrower{grower{&numberSource{state: 43}}, manyLists()}
+	g := exprGrower{grower: grower{&numberSource{state: 43}}, lists: manyLists()}
 	for round := 0; round < 4000; round++ {
 		wantTextOrNone(t, laid(g.any(round%5)))
 	}

@@ -78,7 +78,7 @@ func TestExprOKOfEveryForm(t *testing.T) {
 
 // TestExprOKOfManyKids asks for operations with up to nine kids, of which one or two are of another kind than the rest.
 func TestExprOKOfManyKids(t *testing.T) {
-	g := exprGrower{grower{&numberSource{state: 41}}, nil}
+	g := exprGrower{grower: grower{&numberSource{state: 41}}, lists: nil}
 	valid := 0
 	for round := 0; round < 30000; round++ {
 		most := g.pick(0, 1, 2, 3, 4, 5)
@@ -145,7 +145,7 @@ func exprEdits(node impl.XNode, at int) []impl.XNode {
 
 func TestExprOKAtEveryField(t *testing.T) {
 	lists := manyLists()
-	rows := exprGrower{grower{&numberSource{state: 42}}, lists}.rows()
+	rows := exprGrower{grower: grower{&numberSource{state: 42}}, lists: lists}.rows()
 	for _, b := range everyOperation(t) {
 		e := laid(b)
 		for at := range e.Nodes {
