@@ -85,8 +85,8 @@ func TestOperationJoins(t *testing.T) {
 		{"semi on true", join(impl.JoinSemi, ints(1, 2), ints(3, 4, 5), constOf(boolv(true))), "1;2;", impl.OK, 3 + 4 + 1 + 6 + 2},
 		{"anti on NULL", join(impl.JoinAnti, ints(1, 2), ints(3), constOf(null)), "1;2;", impl.OK, 3 + 2 + 1 + 2 + 2},
 		{"semi on NULL", join(impl.JoinSemi, ints(1, 2), ints(3), castOf(impl.Bool, constOf(null))), "", impl.OK, 3 + 2 + 1 + 2},
-		{"inner that fails", join(impl.JoinInner, ints(5, 2), ints(2, 3), fails), "", impl.ErrZero, 3 + 3 + 1 + 4 + 1},
-		{"semi that fails behind a partner", join(impl.JoinSemi, ints(5, 2, 5), ints(2), fails), "", impl.ErrZero, 4 + 2 + 1 + 3 + 2},
+		{"inner that fails", join(impl.JoinInner, ints(5, 2), ints(2, 3), fails), "", impl.ErrZero, 3 + 3 + 1 + 4},
+		{"semi that fails behind a partner", join(impl.JoinSemi, ints(5, 2, 5), ints(2), fails), "", impl.ErrZero, 4 + 2 + 1 + 3},
 		{"a right side without rows fails never", join(impl.JoinLeft, ints(2), none(), fails), "2,NULL;", impl.OK, 2 + 1 + 1 + 1},
 	})
 }
@@ -108,7 +108,7 @@ func TestOperationRows(t *testing.T) {
 		{"two rows", values([]int{i, i}, 2, one, constOf(intv(2)), constOf(intv(3)), castOf(i, constOf(null))), "1,2;3,NULL;", impl.OK, 3},
 		{"the first of a row's codes", values([]int{i, i}, 1, cast, zero), "", impl.ErrCast, 1},
 		{"the first of a row's codes, the other way round", values([]int{i, i}, 1, zero, cast), "", impl.ErrZero, 1},
-		{"the least of the rows' codes", values([]int{i, i}, 3, cast, zero, one, zero, one, one), "", impl.ErrZero, 2},
+		{"the least of the rows' codes", values([]int{i, i}, 3, cast, zero, one, zero, one, one), "", impl.ErrZero, 1},
 		{"the least is the last", values([]int{i}, 3, cast, zero, big), "", impl.ErrOverflow, 1},
 		{"the least is the first", values([]int{i}, 3, big, zero, cast), "", impl.ErrOverflow, 1},
 		{"a project of nothing", project(ints(1, 2), nil), ";;", impl.OK, 3 + 3},
@@ -156,7 +156,7 @@ func TestOperationGroups(t *testing.T) {
 		{"sums and means of groups", group(rows(), []int{0}, of(impl.AggSum, 0), of(impl.AggAvg, 0)), "1,2,1;NULL,NULL,NULL;2,2,2;", impl.OK, 6 + 4},
 		{"one aggregate fails, those behind it do not", group(ints(most, 1), nil, all, of(impl.AggSum, 0), of(impl.AggMax, 0), all), "", impl.ErrOverflow, 3 + 1},
 		{"two aggregates fail", group(ints(most, 1), nil, of(impl.AggSum, 0), of(impl.AggAvg, 0)), "", impl.ErrOverflow, 3 + 1},
-		{"one group of two fails", group(valueRows([]int{1, 1}, []impl.Value{intv(1), intv(most)}, []impl.Value{intv(2), intv(2)}, []impl.Value{intv(1), intv(most)}), []int{0}, of(impl.AggSum, 1)), "", impl.ErrOverflow, 4 + 1 + 1},
+		{"one group of two fails", group(valueRows([]int{1, 1}, []impl.Value{intv(1), intv(most)}, []impl.Value{intv(2), intv(2)}, []impl.Value{intv(1), intv(most)}), []int{0}, of(impl.AggSum, 1)), "", impl.ErrOverflow, 4 + 1},
 	})
 }
 
@@ -322,6 +322,10 @@ func TestFuelAheadOfCodes(t *testing.T) {
 		{"select exists (select 1 from t as a, t as b)", impl.ErrFuel},
 		{"select 1 from t as a join t as b on 1 / 0 = 1", impl.ErrFuel},
 		{"select 1 from t as a join t as b on false limit 0", impl.ErrFuel},
+		// With 90 rows, all but those of what fails is less than MaxWork, and those of what does not fail are more.
+		{"select a.id / (b.id - 3) from (select id from t limit 90) as a, (select id from t limit 90) as b", impl.ErrZero},
+		{"select a.id from (select id from t limit 90) as a, (select id from t limit 90) as b where a.id / (b.id - 3) < 99", impl.ErrZero},
+		{"select a.id + b.id from (select id from t limit 90) as a, (select id from t limit 90) as b", impl.ErrFuel},
 		{"select true or exists (select 1 from t as a, t as b)", impl.OK},
 		{"select case when 1 / 0 = 1 then 1 else (select count(*) from t as a, t as b) end", impl.ErrZero},
 	} {

@@ -353,7 +353,6 @@ type outcome struct {
 }
 
 func (o *outcome) give(row ...impl.Value) {
-	o.spend()
 	o.rows = append(o.rows, slices.Clone(row))
 }
 
@@ -403,6 +402,9 @@ func (w *worker) node(at int, around [][]impl.Value) ([][]impl.Value, int) {
 	}
 	if len(o.codes) > 0 {
 		return nil, slices.Min(o.codes)
+	}
+	for range o.rows {
+		w.spend()
 	}
 	return o.rows, impl.OK
 }
