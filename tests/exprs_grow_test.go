@@ -309,19 +309,25 @@ func bound(t *testing.T, src string) *branch {
 	tree := parsed(t, "select "+src)
 	for _, node := range tree.Nodes {
 		if node.Op == impl.NItem {
-			return boundNode(t, tree, node.Kids[0])
+			return boundNode(t, tree, node.Kids[0], nil)
 		}
 	}
 	t.Fatalf("%s is no expression", src)
 	return nil
 }
 
-func boundNode(t *testing.T, tree impl.Tree, at int) *branch {
+// boundNode reads a node of a tree; named may make a branch of a call of its own.
+func boundNode(t *testing.T, tree impl.Tree, at int, named func(call impl.Node) *branch) *branch {
 	t.Helper()
 	node := tree.Nodes[at]
+	if node.Op == impl.NCall && named != nil {
+		if made := named(node); made != nil {
+			return made
+		}
+	}
 	var kids []*branch
 	for _, kid := range node.Kids {
-		kids = append(kids, boundNode(t, tree, kid))
+		kids = append(kids, boundNode(t, tree, kid, named))
 	}
 	negatedIf := func(not bool, b *branch) *branch {
 		if not {

@@ -57,16 +57,18 @@ type planGrower struct {
 	*planner
 	// depth says how many plans may still stand in one another's expressions.
 	depth int
+	// rich has conditions that rewritings look for, see richCondition.
+	rich bool
 }
 
 func newPlanGrower(numbers *numberSource, s impl.Schema, depth int) planGrower {
-	return planGrower{grower{numbers}, &planner{schema: s}, depth}
+	return planGrower{grower: grower{numbers}, planner: &planner{schema: s}, depth: depth}
 }
 
 // exprs makes expressions that see some lists of kinds.
 func (g planGrower) exprs(lists [][]int) exprGrower {
 	made := exprGrower{grower: g.grower, lists: lists}
-	if g.depth > 0 && len(lists) < 8 {
+	if g.depth > 0 && len(lists) < 8 && !(g.rich && g.chance(2)) {
 		made.named = func(kind int) *branch { return g.naming(kind, lists) }
 	}
 	return made
@@ -118,6 +120,9 @@ func (g planGrower) someKinds(least, most int) []int {
 }
 
 func (g planGrower) condition(lists [][]int) *branch {
+	if g.rich {
+		return g.richCondition(lists)
+	}
 	return g.exprs(lists).ofKind(g.pick(4, 4, 4, 4, 4, 4, 4, 0), g.pick(1, 1, 2))
 }
 
@@ -142,7 +147,11 @@ func (g planGrower) grown(around [][]int, size int) *shrub {
 		if node.A > 3 {
 			node.Kinds = left.Kinds
 		}
-		return &shrub{node, left, right, []*branch{g.condition(sees(both))}}
+		join := &shrub{node, left, right, []*branch{g.condition(sees(both))}}
+		if g.rich && g.chance(2) {
+			return sameRows(join, impl.PNode{Op: impl.PFilter}, g.condition(sees(join.Kinds)))
+		}
+		return join
 	case op == impl.PGroup:
 		return g.group(left)
 	case op == impl.PDistinct:
@@ -153,6 +162,8 @@ func (g planGrower) grown(around [][]int, size int) *shrub {
 			node.Sorts = append(node.Sorts, impl.SortKey{Col: below(g.numberSource, len(left.Kinds)), Desc: g.chance(2), First: g.chance(2)})
 		}
 		return sameRows(left, node)
+	case op == impl.PLimit && g.rich:
+		return sameRows(left, impl.PNode{Op: op, A: g.pick(-1, -1, 0, 3, 5), B: g.pick(0, 0, 0, 1)})
 	case op == impl.PLimit:
 		return sameRows(left, impl.PNode{Op: op, A: g.pick(-1, 0, 1, 3, 9223372036854775807), B: g.pick(0, 1, 2, 9223372036854775807)})
 	case op == impl.PUnion || op == impl.PExcept:
