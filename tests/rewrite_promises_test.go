@@ -62,6 +62,7 @@ func wantRewritings(t *testing.T, s impl.Schema, st impl.State, p impl.Plan, met
 
 // TestP10ByChance grows plans and states in several runs at a time.
 func TestP10ByChance(t *testing.T) {
+	t.Parallel()
 	s := estate(t)
 	var met tally
 	t.Run("all", func(t *testing.T) {
@@ -94,7 +95,7 @@ func TestP10OfQueriesByChance(t *testing.T) {
 	numbers := &numberSource{state: 941}
 	states := append(grownStates(numbers, s, 10, 12), packedState(s, 5), packedState(s, 9), packedState(s, 14))
 	var met tally
-	for round := 0; round < 700; round++ {
+	for round := 0; round < 400; round++ {
 		q := newQueryGrower(numbers, s, 1+round%2)
 		if p, _, code, _ := impl.Bind(s, inTree(q.query(q.kinds(1, 3), false))); code == impl.OK {
 			wantRewritings(t, s, states[below(numbers, len(states))], p, &met)
