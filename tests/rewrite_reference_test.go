@@ -28,8 +28,8 @@ func rewritings() []rewriting {
 // rewriter says chapter 9 once more; a branch that names a plan has the plan's place in the planner's list as B.
 type rewriter struct{ planner }
 
-// wantedRewriting is a rewriting of a valid plan, or the plan itself where that would have too many nodes.
-func wantedRewriting(p impl.Plan, change func(r *rewriter, root *shrub) *shrub) impl.Plan {
+// shrubsOf is a plan's root with all below it at hand, and what knows its plans.
+func shrubsOf(p impl.Plan) (*rewriter, *shrub) {
 	r := &rewriter{}
 	for _, n := range p.Nodes {
 		made := &shrub{PNode: n}
@@ -45,7 +45,13 @@ func wantedRewriting(p impl.Plan, change func(r *rewriter, root *shrub) *shrub) 
 		}
 		r.plans = append(r.plans, made)
 	}
-	root := change(r, r.plans[len(r.plans)-1])
+	return r, r.plans[len(r.plans)-1]
+}
+
+// wantedRewriting is a rewriting of a valid plan, or the plan itself where that would have too many nodes.
+func wantedRewriting(p impl.Plan, change func(r *rewriter, root *shrub) *shrub) impl.Plan {
+	r, root := shrubsOf(p)
+	root = change(r, root)
 	if r.nodeCount(root, map[*shrub]int{}) > 200 {
 		return p
 	}
