@@ -443,17 +443,26 @@ func (p *planner) lay(plan *shrub, nodes []impl.PNode) []impl.PNode {
 		nodes = p.lay(plan.r, nodes)
 		node.R = len(nodes) - 1
 	}
-	for _, b := range plan.exprs {
+	node.Exprs = p.layExprs(plan.exprs, func(named *shrub) int {
+		nodes = p.lay(named, nodes)
+		return len(nodes) - 1
+	})
+	return append(nodes, node)
+}
+
+// layExprs are expressions with the plans that they name laid down, one behind the other, by a function that tells their roots' numbers.
+func (p *planner) layExprs(exprs []*branch, lay func(named *shrub) int) []impl.Expr {
+	var list []impl.Expr
+	for _, b := range exprs {
 		e := laid(b)
 		for i := range e.Nodes {
 			if e.Nodes[i].Op >= impl.XExists {
-				nodes = p.lay(p.plans[e.Nodes[i].B], nodes)
-				e.Nodes[i].B = len(nodes) - 1
+				e.Nodes[i].B = lay(p.plans[e.Nodes[i].B])
 			}
 		}
-		node.Exprs = append(node.Exprs, e)
+		list = append(list, e)
 	}
-	return append(nodes, node)
+	return list
 }
 
 func (p *planner) whole(plan *shrub) impl.Plan {

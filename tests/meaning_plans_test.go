@@ -18,6 +18,7 @@ func wantPlan(t *testing.T, what string, s impl.Schema, p impl.Plan, ok bool) {
 	if rows, code := impl.Meaning(s, emptyState(s), p); (code != impl.ErrBad) != ok || code != impl.OK && len(rows) > 0 {
 		t.Errorf("%s: Meaning is %v, %d", what, rows, code)
 	}
+	wantPhys(t, what, s, nodeByNode(p), ok)
 }
 
 func boundPlan(t *testing.T, s impl.Schema, text string) impl.Plan {
@@ -31,20 +32,44 @@ func boundPlan(t *testing.T, s impl.Schema, text string) impl.Plan {
 
 // fieldsOf are the numbers of a node under their names.
 func fieldsOf(n *impl.PNode) map[string]*int {
-	fields := map[string]*int{"Op": &n.Op, "L": &n.L, "R": &n.R, "Table": &n.Table, "A": &n.A, "B": &n.B}
-	for i := range n.Keys {
-		fields[fmt.Sprintf("key %d", i)] = &n.Keys[i]
+	fields := lists{&n.Exprs, &n.Keys, &n.Aggs, &n.Sorts, &n.Kinds}.fields()
+	for name, field := range map[string]*int{"Op": &n.Op, "L": &n.L, "R": &n.R, "Table": &n.Table, "A": &n.A, "B": &n.B} {
+		fields[name] = field
 	}
-	for i := range n.Aggs {
-		fields[fmt.Sprintf("function %d", i)], fields[fmt.Sprintf("argument %d", i)] = &n.Aggs[i].Fn, &n.Aggs[i].Col
+	return fields
+}
+
+// listChanges make each list of a node one longer or one shorter, and its expressions' lists of nodes and kids.
+func listChanges(n *impl.PNode) map[string]func() {
+	return lists{&n.Exprs, &n.Keys, &n.Aggs, &n.Sorts, &n.Kinds}.changes()
+}
+
+// lists are those of a node of a plan, or of a physical one.
+type lists struct {
+	exprs *[]impl.Expr
+	keys  *[]int
+	aggs  *[]impl.PAgg
+	sorts *[]impl.SortKey
+	kinds *[]int
+}
+
+// fields are the numbers in the lists under their names.
+func (l lists) fields() map[string]*int {
+	fields := map[string]*int{}
+	keys, aggs, sorts, kinds := *l.keys, *l.aggs, *l.sorts, *l.kinds
+	for i := range keys {
+		fields[fmt.Sprintf("key %d", i)] = &keys[i]
 	}
-	for i := range n.Sorts {
-		fields[fmt.Sprintf("sort %d", i)] = &n.Sorts[i].Col
+	for i := range aggs {
+		fields[fmt.Sprintf("function %d", i)], fields[fmt.Sprintf("argument %d", i)] = &aggs[i].Fn, &aggs[i].Col
 	}
-	for i := range n.Kinds {
-		fields[fmt.Sprintf("kind %d", i)] = &n.Kinds[i]
+	for i := range sorts {
+		fields[fmt.Sprintf("sort %d", i)] = &sorts[i].Col
 	}
-	for i, e := range n.Exprs {
+	for i := range kinds {
+		fields[fmt.Sprintf("kind %d", i)] = &kinds[i]
+	}
+	for i, e := range *l.exprs {
 		for k := range e.Nodes {
 			x := &e.Nodes[k]
 			for name, field := range map[string]*int{"Op": &x.Op, "Kind": &x.Kind, "A": &x.A, "B": &x.B} {
@@ -55,35 +80,33 @@ func fieldsOf(n *impl.PNode) map[string]*int {
 	return fields
 }
 
-// listChanges make each list of a node one longer or one shorter, and its expressions' lists of nodes and kids.
-func listChanges(n *impl.PNode) map[string]func() {
-	changes := map[string]func(){
-		"expression more": func() { n.Exprs = append(n.Exprs, laid(constOf(null))) },
-		"key more":        func() { n.Keys = append(n.Keys, 0) },
-		"aggregate more":  func() { n.Aggs = append(n.Aggs, impl.PAgg{Fn: impl.AggAll, Col: -1}) },
-		"sort more":       func() { n.Sorts = append(n.Sorts, impl.SortKey{}) },
-		"kind more":       func() { n.Kinds = append(n.Kinds, impl.Null) },
-	}
-	for i := range n.Exprs {
-		e := &n.Exprs[i]
+// changes make each list one longer or one shorter, and the expressions' lists of nodes and kids.
+func (l lists) changes() map[string]func() {
+	changes := map[string]func(){}
+	lengthChanges(changes, "expression", l.exprs, laid(constOf(null)))
+	lengthChanges(changes, "key", l.keys, 0)
+	lengthChanges(changes, "aggregate", l.aggs, impl.PAgg{Fn: impl.AggAll, Col: -1})
+	lengthChanges(changes, "sort", l.sorts, impl.SortKey{})
+	lengthChanges(changes, "kind", l.kinds, impl.Null)
+	for i := range *l.exprs {
+		e := &(*l.exprs)[i]
 		changes[fmt.Sprintf("expression %d node more", i)] = func() { e.Nodes = append(e.Nodes, impl.XNode{Op: impl.XConst}) }
 		changes[fmt.Sprintf("expression %d node less", i)] = func() { e.Nodes = e.Nodes[1:] }
 		changes[fmt.Sprintf("expression %d kid more", i)] = func() { e.Nodes[0].Kids = append(e.Nodes[0].Kids, 0) }
 		changes[fmt.Sprintf("expression %d value", i)] = func() { e.Nodes[0].Val.N++ }
 	}
-	for name, shorten := range map[string]func(){
-		"expression less": func() { n.Exprs = n.Exprs[1:] }, "key less": func() { n.Keys = n.Keys[1:] }, "aggregate less": func() { n.Aggs = n.Aggs[1:] },
-		"sort less": func() { n.Sorts = n.Sorts[1:] }, "kind less": func() { n.Kinds = n.Kinds[1:] },
-	} {
-		lengths := map[string]int{"expression less": len(n.Exprs), "key less": len(n.Keys), "aggregate less": len(n.Aggs), "sort less": len(n.Sorts), "kind less": len(n.Kinds)}
-		if lengths[name] > 0 {
-			changes[name] = shorten
-		}
-	}
-	for i := range n.Aggs {
-		changes[fmt.Sprintf("distinct %d", i)] = func() { n.Aggs[i].Distinct = !n.Aggs[i].Distinct }
+	for i := range *l.aggs {
+		changes[fmt.Sprintf("distinct %d", i)] = func() { (*l.aggs)[i].Distinct = !(*l.aggs)[i].Distinct }
 	}
 	return changes
+}
+
+// lengthChanges make a list one longer, and one shorter if it is not empty.
+func lengthChanges[T any](changes map[string]func(), name string, list *[]T, more T) {
+	changes[name+" more"] = func() { *list = append(*list, more) }
+	if len(*list) > 0 {
+		changes[name+" less"] = func() { *list = (*list)[1:] }
+	}
 }
 
 // changedPlans are all plans that are p with one field of the last node changed, under what was done.

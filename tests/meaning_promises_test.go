@@ -7,7 +7,7 @@ import (
 	"loop.example/g00001/impl"
 )
 
-// wantMeaning asks PlanOK, SafePlan and Meaning of a valid schema and state for what the reference answers; it tells the code.
+// wantMeaning asks PlanOK, SafePlan and Meaning of a valid schema and state for what the reference answers, and PhysOK and Execute for the same node by node; it tells the code.
 func wantMeaning(t *testing.T, s impl.Schema, st impl.State, p impl.Plan) int {
 	t.Helper()
 	kept, keptPlan := copyState(st), copyPlan(p)
@@ -20,13 +20,14 @@ func wantMeaning(t *testing.T, s impl.Schema, st impl.State, p impl.Plan) int {
 	}
 	rows, code := impl.Meaning(s, st, p)
 	var want [][]impl.Value
-	wantCode := impl.ErrBad
+	wantCode, work := impl.ErrBad, 0
 	if ok {
-		want, wantCode, _ = wantedRows(st, p)
+		want, wantCode, work = wantedRows(st, p)
 	}
 	if code != wantCode || !sameValues(rows, want) {
 		t.Fatalf("%q\nis %d %v\nnot %d %v\nover %v", toldPlan(p), code, rows, wantCode, want, st)
 	}
+	wantNodeByNode(t, s, st, p, want, work, code)
 	if ok && impl.SafePlan(p) && code != impl.OK && code != impl.ErrFuel {
 		t.Fatalf("%q is safe and fails with %d", toldPlan(p), code)
 	}
@@ -34,6 +35,22 @@ func wantMeaning(t *testing.T, s impl.Schema, st impl.State, p impl.Plan) int {
 		t.Fatalf("%v: an argument was written into", keptPlan)
 	}
 	return code
+}
+
+// wantNodeByNode asks Execute of a plan that is worked out by the operations of the same names for rows, work and a code.
+func wantNodeByNode(t *testing.T, s impl.Schema, st impl.State, p impl.Plan, want [][]impl.Value, work, code int) {
+	t.Helper()
+	f := nodeByNode(p)
+	if code != impl.OK {
+		want, work = nil, 0
+	}
+	if got := impl.PhysOK(s, f); got != (code != impl.ErrBad) {
+		t.Fatalf("PhysOK is %v\n%v", got, f)
+	}
+	rows, spent, got := impl.Execute(s, st, f)
+	if got != code || spent != work || !sameValues(rows, want) {
+		t.Fatalf("%sis %d, %d %v\nnot %d, %d %v\nover %v", impl.Explain(f), got, spent, rows, code, work, want, st)
+	}
 }
 
 func grownStates(numbers *numberSource, s impl.Schema, count, most int) []impl.State {
@@ -127,8 +144,11 @@ func TestMeaningOfQueriesByChance(t *testing.T) {
 	}
 }
 
-// asked13 binds and works out a query that is grown, of which the meaning is held against the reference.
-func asked13(t *testing.T, s impl.Schema, st impl.State, root *plant) ([][]impl.Value, int) {
+// asker binds and works out a query that is grown: rows, code.
+type asker func(t *testing.T, s impl.Schema, st impl.State, root *plant) ([][]impl.Value, int)
+
+// askMeaning answers by the meaning, which is held against the reference.
+func askMeaning(t *testing.T, s impl.Schema, st impl.State, root *plant) ([][]impl.Value, int) {
 	t.Helper()
 	p, _, code, _ := impl.Bind(s, inTree(root))
 	if code != impl.OK {
@@ -150,11 +170,15 @@ func selectWhere(table string, condition *plant) *plant {
 		newPlant(impl.Node{Op: impl.NWhere}, condition)))
 }
 
-// TestPromise13OfConditions asks for the rows for which a condition is true, false and NULL.
 func TestPromise13OfConditions(t *testing.T) {
 	t.Parallel()
-	s := estate(t)
-	numbers := &numberSource{state: 13}
+	wantParts(t, estate(t), 13, askMeaning)
+}
+
+// wantParts asks for the rows for which a condition is true, false and NULL.
+func wantParts(t *testing.T, s impl.Schema, seed uint64, ask asker) {
+	t.Helper()
+	numbers := &numberSource{state: seed}
 	states := append(grownStates(numbers, s, 30, 12), packedState(s, 30))
 	whole, parts := 0, map[int]int{}
 	for round := 0; round < 1200; round++ {
@@ -166,7 +190,7 @@ func TestPromise13OfConditions(t *testing.T) {
 		var all [][]impl.Value
 		fails := false
 		for i, question := range []*plant{condition, newPlant(impl.Node{Op: impl.NNot}, condition), newPlant(impl.Node{Op: impl.NIs}, condition)} {
-			rows, code := asked13(t, s, st, selectWhere(table.Name, question))
+			rows, code := ask(t, s, st, selectWhere(table.Name, question))
 			fails = fails || code != impl.OK
 			all = append(all, rows...)
 			parts[i] += min(len(rows), 1)
@@ -184,33 +208,37 @@ func TestPromise13OfConditions(t *testing.T) {
 	}
 }
 
-// TestPromise13OfQueries asks for the COUNT of a query, and for it twice less itself.
 func TestPromise13OfQueries(t *testing.T) {
 	t.Parallel()
-	s := estate(t)
-	numbers := &numberSource{state: 1313}
+	wantCounts(t, estate(t), 1313, askMeaning)
+}
+
+// wantCounts asks for the COUNT of a query, and for it twice less itself.
+func wantCounts(t *testing.T, s impl.Schema, seed uint64, ask asker) {
+	t.Helper()
+	numbers := &numberSource{state: seed}
 	states := grownStates(numbers, s, 30, 8)
 	done := 0
 	for round := 0; round < 1200; round++ {
 		st := states[below(numbers, len(states))]
 		q := newQueryGrower(numbers, s, round%3)
 		query := q.query(q.kinds(1, 3), false)
-		rows, code := asked13(t, s, st, query)
+		rows, code := ask(t, s, st, query)
 		if code != impl.OK {
 			continue
 		}
 		star := newPlant(impl.Node{Op: impl.NItem}, newPlant(impl.Node{Op: impl.NAgg, N: impl.AggAll}))
-		counted, code := asked13(t, s, st, newPlant(impl.Node{Op: impl.NQuery}, newPlant(impl.Node{Op: impl.NSelect}, newPlant(impl.Node{Op: impl.NItems}, star),
+		counted, code := ask(t, s, st, newPlant(impl.Node{Op: impl.NQuery}, newPlant(impl.Node{Op: impl.NSelect}, newPlant(impl.Node{Op: impl.NItems}, star),
 			newPlant(impl.Node{Op: impl.NFrom}, newPlant(impl.Node{Op: impl.NDerived, Name: "q"}, query)))))
 		if code == impl.OK && !sameValues(counted, [][]impl.Value{{intv(len(rows))}}) {
 			t.Fatalf("%d rows: %v", len(rows), counted)
 		}
 		twice := newPlant(impl.Node{Op: impl.NQuery}, newPlant(impl.Node{Op: impl.NSetOp, N: impl.SetUnion, M: 1}, query, query))
-		left, code := asked13(t, s, st, newPlant(impl.Node{Op: impl.NQuery}, newPlant(impl.Node{Op: impl.NSetOp, N: impl.SetExcept, M: 1}, twice, query)))
+		left, code := ask(t, s, st, newPlant(impl.Node{Op: impl.NQuery}, newPlant(impl.Node{Op: impl.NSetOp, N: impl.SetExcept, M: 1}, twice, query)))
 		if code != impl.OK {
 			continue
 		}
-		if !sameValues(left, rows) {
+		if !sameValues(sortedRows(left), sortedRows(rows)) {
 			t.Fatalf("%v\nis not %v", left, rows)
 		}
 		if len(rows) > 0 {

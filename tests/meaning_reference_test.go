@@ -87,10 +87,13 @@ type planChecker struct {
 	nodes  []impl.PNode
 	free   int
 	ok     bool
+	// visit looks at the root of a plan that an expression names.
+	visit func(at int, around [][]int)
 }
 
 func wantedPlanOK(s impl.Schema, p impl.Plan) bool {
-	c := &planChecker{s, p.Nodes, len(p.Nodes) - 1, len(p.Nodes) >= 1 && len(p.Nodes) <= 200}
+	c := &planChecker{schema: s, nodes: p.Nodes, free: len(p.Nodes) - 1, ok: len(p.Nodes) >= 1 && len(p.Nodes) <= 200}
+	c.visit = c.node
 	if c.ok {
 		c.node(c.free, nil)
 	}
@@ -249,7 +252,7 @@ func (c *planChecker) expr(e impl.Expr, seen [][]int) {
 			c.must(c.ok && tableKind(impl.XNode{Op: impl.XIn}, []int{e.Nodes[x.Kids[0]].Kind, given[0]}) == impl.Bool)
 		}
 		if c.ok {
-			c.node(x.B, seen)
+			c.visit(x.B, seen)
 		}
 	}
 	// What names a plan is now as good as a column of its kind, or as an IN of one.
@@ -314,6 +317,8 @@ type worker struct {
 	exprs [][]*branch
 	state impl.State
 	work  int
+	// ask works out a plan that an expression names.
+	ask func(at int, around [][]impl.Value) ([][]impl.Value, int)
 }
 
 // spent is thrown when there has been too much work.
@@ -328,19 +333,31 @@ func (w *worker) spend() {
 
 // wantedRows is Meaning of a valid plan, and the work that was done.
 func wantedRows(st impl.State, p impl.Plan) (rows [][]impl.Value, code, work int) {
-	w := &worker{nodes: p.Nodes, exprs: make([][]*branch, len(p.Nodes)), state: st}
-	for i, n := range p.Nodes {
-		for _, e := range n.Exprs {
-			w.exprs[i] = append(w.exprs[i], upright(e))
-		}
+	w := &worker{nodes: p.Nodes, state: st}
+	w.ask = w.node
+	for _, n := range p.Nodes {
+		w.exprs = append(w.exprs, uprightAll(n.Exprs))
 	}
+	return w.root()
+}
+
+func uprightAll(exprs []impl.Expr) []*branch {
+	var list []*branch
+	for _, e := range exprs {
+		list = append(list, upright(e))
+	}
+	return list
+}
+
+// root works out the last node.
+func (w *worker) root() (rows [][]impl.Value, code, work int) {
 	defer func() {
 		if thrown := recover(); thrown != nil {
 			_ = thrown.(spent)
 			rows, code, work = nil, impl.ErrFuel, w.work
 		}
 	}()
-	rows, code = w.node(len(p.Nodes)-1, nil)
+	rows, code = w.ask(len(w.exprs)-1, nil)
 	return rows, code, w.work
 }
 
@@ -368,7 +385,7 @@ func (o *outcome) values(exprs []*branch, rows [][]impl.Value) (values []impl.Va
 		}
 	}()
 	ask := evaluator{func(plan int, rows [][]impl.Value) [][]impl.Value {
-		given, code := o.node(plan, rows)
+		given, code := o.ask(plan, rows)
 		if code != impl.OK {
 			panic(failed(code))
 		}
@@ -380,19 +397,25 @@ func (o *outcome) values(exprs []*branch, rows [][]impl.Value) (values []impl.Va
 	return values, true
 }
 
-func (w *worker) node(at int, around [][]impl.Value) ([][]impl.Value, int) {
-	w.spend()
-	n := w.nodes[at]
-	var sides [2][][]impl.Value
-	for i, side := range []int{n.L, n.R} {
+// sides are the rows of L and then of R, as far as there are such.
+func (w *worker) sides(l, r int, around [][]impl.Value) (sides [2][][]impl.Value, code int) {
+	for i, side := range []int{l, r} {
 		if side < 0 {
 			continue
 		}
-		rows, code := w.node(side, around)
-		if code != impl.OK {
-			return nil, code
+		if sides[i], code = w.ask(side, around); code != impl.OK {
+			break
 		}
-		sides[i] = rows
+	}
+	return sides, code
+}
+
+func (w *worker) node(at int, around [][]impl.Value) ([][]impl.Value, int) {
+	w.spend()
+	n := w.nodes[at]
+	sides, code := w.sides(n.L, n.R, around)
+	if code != impl.OK {
+		return nil, code
 	}
 	o := &outcome{worker: w, exprs: w.exprs[at]}
 	if n.Op < impl.PJoin {
@@ -400,11 +423,16 @@ func (w *worker) node(at int, around [][]impl.Value) ([][]impl.Value, int) {
 	} else {
 		o.other(n, sides[0], sides[1], around)
 	}
+	return o.given()
+}
+
+// given are the rows of a node that is worked out, or the least code.
+func (o *outcome) given() ([][]impl.Value, int) {
 	if len(o.codes) > 0 {
 		return nil, slices.Min(o.codes)
 	}
 	for range o.rows {
-		w.spend()
+		o.spend()
 	}
 	return o.rows, impl.OK
 }
@@ -444,7 +472,7 @@ func (o *outcome) simple(n impl.PNode, left, around [][]impl.Value) {
 func (o *outcome) other(n impl.PNode, left, right, around [][]impl.Value) {
 	switch n.Op {
 	case impl.PJoin:
-		o.join(n, left, right, around)
+		o.join(n, left, around, func([]impl.Value) ([][]impl.Value, bool) { return right, true })
 	case impl.PGroup:
 		o.group(n, left)
 	case impl.PDistinct:
@@ -494,13 +522,18 @@ func (o *outcome) except(n impl.PNode, left, right [][]impl.Value) {
 	}
 }
 
-func (o *outcome) join(n impl.PNode, left, right, around [][]impl.Value) {
+// join looks for each row of L at those that find tells for it, unless it fails; the condition is the last expression.
+func (o *outcome) join(n impl.PNode, left, around [][]impl.Value, find func(l []impl.Value) ([][]impl.Value, bool)) {
 	for _, l := range left {
 		partners := 0
+		right, ok := find(l)
+		if !ok {
+			continue
+		}
 		for _, r := range right {
 			o.spend()
 			both := append(slices.Clone(l), r...)
-			given, ok := o.values(o.exprs, append([][]impl.Value{both}, around...))
+			given, ok := o.values(o.exprs[len(o.exprs)-1:], append([][]impl.Value{both}, around...))
 			if !ok || given[0] != boolv(true) {
 				continue
 			}

@@ -96,27 +96,11 @@ func blankRows(count int) *shrub { return &shrub{PNode: impl.PNode{Op: impl.PVal
 
 // behindFiller is the union of a filler with a plan of which no row and no column is taken: its work is 3 more than that of both.
 func behindFiller(work int, p impl.Plan) impl.Plan {
-	nodes := (&planner{}).lay(filler(work), nil)
-	first := len(nodes)
-	for _, n := range copyPlan(p).Nodes {
-		if n.L >= 0 {
-			n.L += first
-		}
-		if n.R >= 0 {
-			n.R += first
-		}
-		for _, e := range n.Exprs {
-			for i := range e.Nodes {
-				if e.Nodes[i].Op >= impl.XExists {
-					e.Nodes[i].B += first
-				}
-			}
-		}
-		nodes = append(nodes, n)
+	var behind impl.Plan
+	for _, n := range physBehindFiller(work, nodeByNode(p)).Nodes {
+		behind.Nodes = append(behind.Nodes, asPlan(n, ofOperation(n.Op)))
 	}
-	last := len(nodes) - 1
-	nodes = append(nodes, impl.PNode{Op: impl.PLimit, L: last, R: -1, Kinds: nodes[last].Kinds}, impl.PNode{Op: impl.PProject, L: last + 1, R: -1})
-	return impl.Plan{Nodes: append(nodes, impl.PNode{Op: impl.PUnion, L: first - 1, R: last + 2, A: 1})}
+	return behind
 }
 
 // wantWork asks how much work a plan is that ends with a code: just so much is left for it of MaxWork, and then one less.
@@ -128,6 +112,7 @@ func wantWork(t *testing.T, s impl.Schema, st impl.State, p impl.Plan, code, wor
 			t.Errorf("%q with a work of %d ahead: %d; want %d", toldPlan(p), ahead+extra, got, want)
 		}
 	}
+	wantPhysWork(t, s, st, nodeByNode(p), code, work)
 }
 
 func TestMeaningJoins(t *testing.T) {

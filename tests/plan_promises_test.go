@@ -41,25 +41,35 @@ func orderAsked(p impl.Plan) (keys []impl.SortKey, exact bool) {
 	return keys, limited && p.Nodes[at].Op == impl.PSort
 }
 
-// wantExecuted asks that a physical plan gives, by the words of chapter 11, what the plan means; it tells the code, ErrFuel where one of them has that.
-func wantExecuted(t *testing.T, s impl.Schema, st impl.State, p impl.Plan, f impl.Phys) int {
+// wantExecuted asks that a physical plan gives what the plan means: when it is executed, and spelled out by the words of chapter 11; it tells the rows and the code of the execution.
+func wantExecuted(t *testing.T, s impl.Schema, st impl.State, p impl.Plan, f impl.Phys) ([][]impl.Value, int) {
 	t.Helper()
 	want, code := impl.Meaning(s, st, p)
-	got, gotCode, _ := wantedRows(st, spelledOut(t, s, f))
-	if code == impl.ErrFuel || gotCode == impl.ErrFuel {
-		return impl.ErrFuel
+	spelled, spelledCode, _ := wantedRows(st, spelledOut(t, s, f))
+	executedCode := wantExecution(t, s, st, f)
+	executed, _, _ := impl.Execute(s, st, f)
+	for i, got := range [][][]impl.Value{spelled, executed} {
+		gotCode := []int{spelledCode, executedCode}[i]
+		if code == impl.ErrFuel || gotCode == impl.ErrFuel {
+			continue
+		}
+		if code != gotCode || !lets(p, want, got) {
+			t.Fatalf("%s\nis %d %v\n%sis %d %v\nover %v", shortPlan(p), code, want, impl.Explain(f), gotCode, got, st)
+		}
 	}
+	return executed, executedCode
+}
+
+// lets tells whether rows are the same as those that a plan means, in an order that its root lets be.
+func lets(p impl.Plan, want, got [][]impl.Value) bool {
 	keys, exact := orderAsked(p)
-	same := code == gotCode && sameValues(sortedRows(want), sortedRows(got)) && (!exact || sameValues(want, got))
-	if len(keys) > 0 {
-		o := &outcome{}
-		o.sort(impl.PNode{Sorts: keys}, got)
-		same = same && sameValues(o.rows, got)
+	same := sameValues(sortedRows(want), sortedRows(got)) && (!exact || sameValues(want, got))
+	if len(keys) == 0 {
+		return same
 	}
-	if !same {
-		t.Fatalf("%s\nis %d %v\n%sis %d %v\nover %v", shortPlan(p), code, want, impl.Explain(f), gotCode, got, st)
-	}
-	return code
+	o := &outcome{}
+	o.sort(impl.PNode{Sorts: keys}, got)
+	return same && sameValues(o.rows, got)
 }
 
 // tellChoice counts what a physical plan has.
@@ -93,16 +103,17 @@ func wantPromises(t *testing.T, s impl.Schema, x impl.Stats, st impl.State, p im
 		t.Fatalf("%s: %d", shortPlan(p), code)
 	}
 	tellChoice(met, f)
-	code = wantExecuted(t, s, st, p, f)
+	got, code := wantExecuted(t, s, st, p, f)
 	met.add(fmt.Sprintf("code %d", code))
-	if rows, _ := impl.Meaning(s, st, p); len(rows) > 0 {
+	if len(got) > 0 {
 		met.add("rows")
 	}
 	// P12: without indexes there is another plan, and the same answer.
 	bare := withoutIndexes(s)
 	without, _ := wantChoice(t, bare, x, p)
-	if other := wantExecuted(t, bare, st, p, without); other != code && other != impl.ErrFuel && code != impl.ErrFuel {
-		t.Fatalf("%s is %d, without indexes %d", shortPlan(p), code, other)
+	other, otherCode := wantExecuted(t, bare, st, p, without)
+	if code != impl.ErrFuel && otherCode != impl.ErrFuel && (code != otherCode || !sameValues(sortedRows(got), sortedRows(other))) {
+		t.Fatalf("%s is %d %v, without indexes %d %v", shortPlan(p), code, got, otherCode, other)
 	}
 	if !samePhys(f, without) {
 		met.add("other without indexes")

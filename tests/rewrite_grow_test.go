@@ -14,12 +14,14 @@ import (
 type planReader struct {
 	*testing.T
 	planner
+	// more reads calls that are no plans here; nil for others.
+	more func(call impl.Node) *shrub
 }
 
 // readPlan reads a plan, which may be no valid one.
 func readPlan(t *testing.T, s impl.Schema, text string) impl.Plan {
 	t.Helper()
-	r := &planReader{t, planner{schema: s, tree: parsed(t, "select "+text)}}
+	r := &planReader{T: t, planner: planner{schema: s, tree: parsed(t, "select "+text)}}
 	return impl.Plan{Nodes: r.lay(r.plan(firstItem(t, r.tree)), nil)}
 }
 
@@ -30,6 +32,11 @@ func (r *planReader) plan(at int) *shrub {
 	}
 	if node.Name == "vals" {
 		return r.values(node)
+	}
+	if r.more != nil {
+		if made := r.more(node); made != nil {
+			return made
+		}
 	}
 	left := r.plan(node.Kids[0])
 	switch node.Name {
@@ -85,12 +92,20 @@ func (r *planReader) values(node impl.Node) *shrub {
 }
 
 func (r *planReader) join(node impl.Node, left, right *shrub) *shrub {
-	kind := map[string]int{"joined": impl.JoinInner, "leftjoined": impl.JoinLeft, "semijoined": impl.JoinSemi, "antijoined": impl.JoinAnti}[node.Name]
-	kinds := append(slices.Clone(left.Kinds), right.Kinds...)
+	kind := joinNamed(node.Name, "joined")
+	return &shrub{impl.PNode{Op: impl.PJoin, A: kind, Kinds: joinedKinds(kind, left.Kinds, right.Kinds)}, left, right, []*branch{r.expr(node.Kids[2])}}
+}
+
+// joinNamed is the join that a call's name tells ahead of a word; 0 if it does not.
+func joinNamed(name, word string) int {
+	return map[string]int{word: impl.JoinInner, "left" + word: impl.JoinLeft, "semi" + word: impl.JoinSemi, "anti" + word: impl.JoinAnti}[name]
+}
+
+func joinedKinds(kind int, left, right []int) []int {
 	if kind > impl.JoinCross {
-		kinds = left.Kinds
+		return left
 	}
-	return &shrub{impl.PNode{Op: impl.PJoin, A: kind, Kinds: kinds}, left, right, []*branch{r.expr(node.Kids[2])}}
+	return append(slices.Clone(left), right...)
 }
 
 // group reads keys and aggregates as toldPlanNode tells them.
