@@ -72,6 +72,9 @@ func askExecution(numbers *numberSource) asker {
 			x = g.grownStats(s)
 		}
 		f, code := impl.Choose(s, x, p)
+		if code == impl.ErrBig && len(p.Nodes) > 150 {
+			return nil, code
+		}
 		if code != impl.OK || !impl.PhysOK(s, f) {
 			t.Fatalf("%s\nis chosen: %d\n%s", shortPlan(p), code, impl.Explain(f))
 		}

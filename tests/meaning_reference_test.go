@@ -249,6 +249,7 @@ func (c *planChecker) expr(e impl.Expr, seen [][]int) {
 			c.must(blank && len(given) == 1 && x.Kind == given[0] && len(x.Kids) == 0)
 		case impl.XInPlan:
 			c.must(blank && len(given) == 1 && x.Kind == impl.Bool && len(x.Kids) == 1)
+			c.must(c.ok && listsValid([][]int{given, {e.Nodes[x.Kids[0]].Kind}}))
 			c.must(c.ok && tableKind(impl.XNode{Op: impl.XIn}, []int{e.Nodes[x.Kids[0]].Kind, given[0]}) == impl.Bool)
 		}
 		if c.ok {

@@ -27,18 +27,42 @@ func wantChoice(t *testing.T, s impl.Schema, x impl.Stats, p impl.Plan) (impl.Ph
 	return got, code
 }
 
-// orderAsked tells what a plan's root asks for: the keys in whose order its rows come, and whether they come in just one.
+// orderAsked tells what a plan's root asks for: the keys in whose order its rows come, as far as they are still columns of it, and whether they come in just one.
 func orderAsked(p impl.Plan) (keys []impl.SortKey, exact bool) {
 	at := len(p.Nodes) - 1
-	if p.Nodes[at].Op == impl.PSort {
-		keys = p.Nodes[at].Sorts
-	}
-	limited := false
+	var over []impl.PNode
 	for p.Nodes[at].Op == impl.PLimit || p.Nodes[at].Op == impl.PProject {
-		limited = limited || p.Nodes[at].Op == impl.PLimit
+		over = append(over, p.Nodes[at])
+		exact = exact || p.Nodes[at].Op == impl.PLimit
 		at = p.Nodes[at].L
 	}
-	return keys, limited && p.Nodes[at].Op == impl.PSort
+	if p.Nodes[at].Op != impl.PSort {
+		return nil, false
+	}
+	keys = p.Nodes[at].Sorts
+	for _, n := range slices.Backward(over) {
+		if n.Op == impl.PProject {
+			keys = projectedKeys(keys, n.Exprs)
+		}
+	}
+	return keys, exact
+}
+
+// projectedKeys are keys by the columns that a PProject makes of theirs, up to the first that it makes none of.
+func projectedKeys(keys []impl.SortKey, exprs []impl.Expr) []impl.SortKey {
+	var list []impl.SortKey
+	for _, key := range keys {
+		place := slices.IndexFunc(exprs, func(e impl.Expr) bool {
+			x := e.Nodes[0]
+			return len(e.Nodes) == 1 && x.Op == impl.XCol && x.A == 0 && x.B == key.Col
+		})
+		if place < 0 {
+			break
+		}
+		key.Col = place
+		list = append(list, key)
+	}
+	return list
 }
 
 // wantExecuted asks that a physical plan gives what the plan means: when it is executed, and spelled out by the words of chapter 11; it tells the rows and the code of the execution.
