@@ -33,8 +33,15 @@ type kept struct {
 
 const inUse = impl.PageSize - 4
 
-// sheet is a page of these parts: an int is a byte, a two is two of them.
+// sheet is a page of these parts, with its sum.
 func sheet(parts ...any) []byte {
+	p := inBytes(parts...)
+	p = append(p, make([]byte, max(0, inUse-len(p)))...)
+	return binary.BigEndian.AppendUint32(p, crc32.ChecksumIEEE(p))
+}
+
+// inBytes writes parts: an int is a byte, a two is two of them, a four four.
+func inBytes(parts ...any) []byte {
 	var p []byte
 	for _, part := range parts {
 		switch part := part.(type) {
@@ -42,13 +49,16 @@ func sheet(parts ...any) []byte {
 			p = append(p, byte(part))
 		case two:
 			p = binary.BigEndian.AppendUint16(p, uint16(part))
+		case four:
+			p = binary.BigEndian.AppendUint32(p, uint32(part))
 		case string:
 			p = append(p, part...)
 		}
 	}
-	p = append(p, make([]byte, max(0, inUse-len(p)))...)
-	return binary.BigEndian.AppendUint32(p, crc32.ChecksumIEEE(p))
+	return p
 }
+
+type four int
 
 type two int
 
