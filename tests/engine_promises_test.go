@@ -98,6 +98,7 @@ func isLeftOpen(o impl.EngineObs) bool {
 type mirror struct {
 	schema impl.Schema
 	state  impl.State
+	lost   bool // a change meant too much work to follow it
 }
 
 // follow asks for the answer that a statement means, and goes on with what it leaves; it tells what it has met.
@@ -146,7 +147,8 @@ func (m *mirror) followChange(t *testing.T, text string, got impl.EngineObs, cha
 	t.Helper()
 	rows, code := impl.Meaning(m.schema, m.state, change.Plan)
 	if code == impl.ErrFuel {
-		t.Skip("too much to mean")
+		m.lost = true
+		return "too much to mean"
 	}
 	if code != impl.OK {
 		return wantCodes(t, text, got, code, 0)
@@ -205,8 +207,8 @@ func TestPromise21(t *testing.T) {
 			ops, _ := g.grownRun(g.pick(30, 60, 150))
 			got, _ := impl.EngineRun(ops)
 			m := &mirror{schema: impl.Schema{Next: 1}}
-			for i, op := range ops[1:] {
-				met.add(m.follow(t, op.Text, got[i+1]))
+			for i := 1; i < len(ops) && !m.lost; i++ {
+				met.add(m.follow(t, ops[i].Text, got[i]))
 			}
 		}
 	})

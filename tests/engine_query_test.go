@@ -148,17 +148,7 @@ func TestQueryInNewMemory(t *testing.T) {
 	for _, text := range []string{"select * from t", "select * from t order by id desc", "select * from t union all select * from t", "select t.*, t.* from t", "select * from t where id = 1"} {
 		names, rows, _, _ := impl.Query(s, st, text)
 		want := cloned(rows)
-		for i, row := range rows {
-			_ = append(row, intv(-1), intv(-2))
-			for k := range row {
-				row[k] = intv(-5)
-			}
-			for k := i + 1; k < len(rows); k++ {
-				if !slices.Equal(rows[k], want[k]) {
-					t.Fatalf("%s: row %d shares memory with row %d", text, k, i)
-				}
-			}
-		}
+		wantListsApart(t, rows, intv(-5))
 		for i := range names {
 			names[i] = "?"
 		}

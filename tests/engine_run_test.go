@@ -511,6 +511,23 @@ func TestEngineAgain(t *testing.T) {
 	})
 }
 
+// wantListsApart asks that no two lists share memory: what is written into one, or behind its end, is seen in no other.
+func wantListsApart[T comparable](t *testing.T, lists [][]T, mark T) {
+	t.Helper()
+	want := cloned(lists)
+	for i, list := range lists {
+		_ = append(list, mark, mark)
+		for k := range list {
+			list[k] = mark
+		}
+		for k := i + 1; k < len(lists); k++ {
+			if !slices.Equal(lists[k], want[k]) {
+				t.Fatalf("list %d shares memory with list %d", k, i)
+			}
+		}
+	}
+}
+
 // TestEngineInNewMemory writes into an answer, which nothing else may see.
 func TestEngineInNewMemory(t *testing.T) {
 	t.Parallel()
@@ -524,30 +541,13 @@ func TestEngineInNewMemory(t *testing.T) {
 	before := copiedEngineOps(ops)
 	got, _ := impl.EngineRun(ops)
 	want, _ := impl.EngineRun(ops)
-	var lists [][]impl.Value
+	var rows [][]impl.Value
+	var names [][]string
 	for _, o := range got {
-		lists = append(lists, o.Rows...)
+		rows, names = append(rows, o.Rows...), append(names, o.Names)
 	}
-	kept := cloned(lists)
-	for i, list := range lists {
-		_ = append(list, intv(-1), intv(-2))
-		for k := range list {
-			list[k] = intv(-5)
-		}
-		for k := i + 1; k < len(lists); k++ {
-			if !slices.Equal(lists[k], kept[k]) {
-				t.Fatalf("row %d shares memory with row %d", k, i)
-			}
-		}
-	}
-	for i := range got {
-		for k := range got[i].Names {
-			got[i].Names[k] = "?"
-		}
-		if i > 0 && len(got[i-1].Names) > 0 && !slices.Equal(got[i].Names, want[i].Names) && len(got[i].Names) > 0 && got[i].Names[0] != "?" {
-			t.Fatalf("names %d", i)
-		}
-	}
+	wantListsApart(t, rows, intv(-5))
+	wantListsApart(t, names, "?")
 	again, _ := impl.EngineRun(ops)
 	if !slices.EqualFunc(again, want, sameEngineObs) || !slices.EqualFunc(ops, before, sameEngineOp) {
 		t.Errorf("an answer is not new memory")
